@@ -1,0 +1,1 @@
+"""What a whole hung on: traces of spans, kept or dropped."""
