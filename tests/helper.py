@@ -30,6 +30,30 @@ def path(trace):
     return [6, trace]
 
 
+def hung(trace):
+    return [7, trace]
+
+
+def faults(trace):
+    return [8, trace]
+
+
+def fate(trace):
+    return [9, trace]
+
+
+def kept():
+    return [10]
+
+
+def calls_told():
+    return [11]
+
+
+def slowest(n):
+    return [12, n]
+
+
 def flat(calls):
     return [number for call in calls for number in call]
 
@@ -60,8 +84,11 @@ def last(*calls):
     return ask(*calls)[-1]
 
 
-def in_threes(numbers):
-    return [tuple(numbers[at:at + 3]) for at in range(0, len(numbers), 3)]
+def rows_of(width, answer):
+    """The rows of an answer that tells first how many there are."""
+    if len(answer) != 1 + width * answer[0]:
+        raise ValueError("not so many rows as told")
+    return [tuple(answer[at:at + width]) for at in range(1, len(answer), width)]
 
 
 class Dice:

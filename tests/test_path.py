@@ -3,16 +3,12 @@
 import unittest
 from itertools import permutations
 
-from helper import TOP, Dice, ask, in_threes, last, made_up_whole, path, span
+from helper import TOP, Dice, ask, last, made_up_whole, path, rows_of, span
 
 
 def stretches(*told):
     """The stretches that path answers, as tuples of a span, from when, up to when."""
-    answer = last(*told, path(told[0][1]))
-    found = in_threes(answer[1:])
-    if len(found) != answer[0]:
-        raise ValueError("not so many stretches as told")
-    return found
+    return rows_of(3, last(*told, path(told[0][1])))
 
 
 def by_the_words(told, x, a, t):

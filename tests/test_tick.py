@@ -128,9 +128,12 @@ class DecidedOnce(unittest.TestCase):
 class OrderAtOneTime(unittest.TestCase):
     def test_says_nothing(self):
         told = [span(1, 1, None, 0, 10), span(1, 2, 1, 5, 40), span(1, 3, 2, 2, 7), span(4, 9, None, 0, 2, failed=1)]
-        asked = [[4, 1], [6, 1], [5, 1, 1], [5, 1, 2], [4, 4], tick(12), tick(13)]
+        of_traces = [[call, trace] for call in (4, 6, 7, 8, 9) for trace in (1, 4)] + [[5, 1, 1], [5, 1, 2]]
+        of_all = [[10], [11], [12, 1], [12, 9]]
+        asked = [*of_traces, *of_all, tick(12), tick(13), *of_traces, *of_all]
         found = [ask(begin(10, 40, 9), tick(3), *order, *asked)[6:] for order in permutations(told)]
-        self.assertEqual(found[0][-2:], [[0], [2, 1, 1, 4, 1]])
+        self.assertEqual(found[0][16:18], [[0], [2, 1, 1, 4, 1]])
+        self.assertEqual(found[0][-4:], [[2, 1, 4], [1, 0, 0, 2, 0], [1, 1, 40], [2, 1, 40, 4, 2]])
         for one in found:
             self.assertEqual(one, found[0])
 

@@ -1,7 +1,8 @@
 """The house: its calls, and the list of whole numbers by which they come and are answered."""
 
-from tracehouse.spans import DROPPED, KEPT, UNDECIDED, Span, Trace, is_whole, moments_alone, tree_rows
-from tracehouse.stretches import hung_stretches
+from tracehouse.replies import alone_reply, counted, faults_reply, hung_reply, path_reply, tree_reply
+from tracehouse.spans import DROPPED, KEPT, UNDECIDED, Span, Trace
+from tracehouse.tallies import longest_first, service_pairs
 
 HIGHEST = 1000000
 HIGHEST_SERVICE = 15
@@ -10,19 +11,23 @@ MOST_SPANS = 60
 
 CANNOT_BE = -1
 NO_TRACE = -2
-NO_SPAN = -3
 OTHER_SPAN = -4
 TOO_MANY_SPANS = -5
-NOT_WHOLE = -6
 
 BEGIN = 1
 SPAN = 2
 TICK = 3
 TREE = 4
 ALONE = 5
+PATH = 6
+HUNG = 7
+FAULTS = 8
+ALL_KEPT = 10
+CALLS_TOLD = 11
+SLOWEST = 12
 
 # How many whole numbers follow the number of a call.
-WIDTHS = {1: 3, 2: 7, 3: 1, 4: 1, 5: 2, 6: 1}
+WIDTHS = {1: 3, 2: 7, 3: 1, 4: 1, 5: 2, 6: 1, 7: 1, 8: 1, 9: 1, 10: 0, 11: 0, 12: 1}
 
 
 def can_be(trace_number, span):
@@ -71,16 +76,17 @@ class House:
     def how_many_spans(self):
         return sum([len(trace.spans) for trace in self.traces.values()])
 
+    def by_number(self):
+        return [self.traces[number] for number in sorted(self.traces)]
+
     def tick(self, now):
         if now < self.now or now > HIGHEST_TIME:
             return [CANNOT_BE]
         self.now = now
-        decided = [self.traces[number] for number in sorted(self.traces) if self.is_due(self.traces[number])]
-        answer = [len(decided)]
+        decided = [trace for trace in self.by_number() if self.is_due(trace)]
         for trace in decided:
             trace.verdict = self.judged(trace)
-            answer.extend([trace.number, 1 if trace.verdict == KEPT else 0])
-        return answer
+        return counted([(trace.number, 1 if trace.verdict == KEPT else 0) for trace in decided])
 
     def is_due(self, trace):
         return trace.verdict == UNDECIDED and self.now - trace.heard >= self.quiet
@@ -90,34 +96,18 @@ class House:
             return KEPT
         return DROPPED
 
-    def tree(self, trace_number):
-        if trace_number not in self.traces:
-            return [NO_TRACE]
-        trace = self.traces[trace_number]
-        answer = [1 if is_whole(trace) else 0]
-        for row in tree_rows(trace):
-            answer.extend([row[0].number, row[1]])
-        return answer
+    def those_kept(self):
+        return [trace for trace in self.by_number() if trace.verdict == KEPT]
 
-    def alone(self, trace_number, number):
-        if trace_number not in self.traces:
-            return [NO_TRACE]
-        trace = self.traces[trace_number]
-        if number not in trace.spans:
-            return [NO_SPAN]
-        return [moments_alone(trace, trace.spans[number])]
+    def kept(self):
+        return counted([(trace.number,) for trace in self.those_kept()])
 
-    def path(self, trace_number):
-        if trace_number not in self.traces:
-            return [NO_TRACE]
-        trace = self.traces[trace_number]
-        if not is_whole(trace):
-            return [NOT_WHOLE]
-        stretches = hung_stretches(trace)
-        answer = [len(stretches)]
-        for stretch in stretches:
-            answer.extend([stretch[0].number, stretch[1], stretch[2]])
-        return answer
+    def calls_told(self):
+        return counted(service_pairs(self.those_kept()))
+
+    def slowest(self, how_many):
+        longest = longest_first(self.those_kept())[:how_many]
+        return counted([(trace.number, trace.length()) for trace in longest])
 
 
 def told_span(given):
@@ -132,12 +122,31 @@ def answer_to(house, call, given):
         return house.span(given[0], told_span(given[1:]))
     if call == TICK:
         return house.tick(given[0])
+    if call == ALL_KEPT:
+        return house.kept()
+    if call == CALLS_TOLD:
+        return house.calls_told()
+    if call == SLOWEST:
+        return house.slowest(given[0])
+    # All others are about one trace, and refuse first of all one that no span was told of.
+    if given[0] not in house.traces:
+        return [NO_TRACE]
+    return answer_about(house.traces[given[0]], call, given)
+
+
+def answer_about(trace, call, given):
     if call == TREE:
-        return house.tree(given[0])
+        return tree_reply(trace)
     if call == ALONE:
-        return house.alone(given[0], given[1])
-    # WIDTHS has no other call but path.
-    return house.path(given[0])
+        return alone_reply(trace, given[1])
+    if call == PATH:
+        return path_reply(trace)
+    if call == HUNG:
+        return hung_reply(trace)
+    if call == FAULTS:
+        return faults_reply(trace)
+    # WIDTHS has no other call but fate, and a verdict is written as fate answers it.
+    return [trace.verdict]
 
 
 def answers(calls):

@@ -42,6 +42,11 @@ class Trace:
         """The spans right within the one of that number, in order."""
         return [span for span in self.in_order() if span.within == number + 1]
 
+    def around(self, span):
+        """The span that this one is right within, or None if it's within nothing, or that wasn't told."""
+        # Within nothing is told as 0, and no span has the number -1.
+        return self.spans.get(span.within - 1)
+
     def has_failure(self):
         return any([span.failed for span in self.spans.values()])
 
@@ -78,3 +83,10 @@ def moments_alone(trace, span):
         moments += max(0, min(inner.begins, span.ends) - reached)
         reached = max(reached, inner.ends)
     return moments + max(0, span.ends - reached)
+
+
+def faults_of(trace):
+    """The spans that failed, with none right within them that failed, in order."""
+    failures = [span for span in trace.in_order() if span.failed]
+    blamed_on = [span.within for span in failures]
+    return [span for span in failures if span.number + 1 not in blamed_on]

@@ -34,3 +34,12 @@ def hung_stretches(trace):
         waiting.append((span, start, middle))
         waiting.append((inner, middle, inner.ends))
     return list(reversed(backward))
+
+
+def time_by_service(trace):
+    """Of a whole trace: a pair of a service and how long the whole hung on it, by the services' numbers."""
+    times = {}
+    for stretch in hung_stretches(trace):
+        service = stretch[0].service
+        times[service] = times.get(service, 0) + stretch[2] - stretch[1]
+    return [(service, times[service]) for service in sorted(times)]
